@@ -6,7 +6,7 @@ import (
 )
 
 // guarded is a slice argument with known memory in front of it and in its spare capacity, so that a test sees every change of that memory.
-type guarded[T byte | int] struct {
+type guarded[T comparable] struct {
 	part    []T
 	backing []T
 	saved   []T
@@ -15,8 +15,13 @@ type guarded[T byte | int] struct {
 const guardWidth = 16
 
 func guard[T byte | int](content []T) guarded[T] {
-	edge := slices.Repeat([]T{201}, guardWidth)
-	backing := slices.Concat(edge, content, edge)
+	return guardBetween(201, content)
+}
+
+// guardBetween surrounds the content with copies of a value that no function of the package makes.
+func guardBetween[T comparable](edge T, content []T) guarded[T] {
+	edges := slices.Repeat([]T{edge}, guardWidth)
+	backing := slices.Concat(edges, content, edges)
 	return guarded[T]{
 		part:    backing[guardWidth : guardWidth+len(content)],
 		backing: backing,
