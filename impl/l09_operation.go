@@ -165,17 +165,21 @@ func ScopeOf(l []Op) []string {
 }
 
 func EncodeOps(l []Op) []byte {
-	if len(l) > MaxOps {
+	if !areOps(l) {
 		return []byte{}
 	}
 	encoded := AppendUvarint(nil, len(l))
 	for _, o := range l {
-		if !IsOp(o) {
-			return []byte{}
-		}
 		encoded = appendOp(encoded, o)
 	}
 	return encoded
+}
+
+// areOps reports whether the list may be stored or performed as a whole.
+func areOps(l []Op) bool {
+	return len(l) <= MaxOps && !slices.ContainsFunc(l, func(o Op) bool {
+		return !IsOp(o)
+	})
 }
 
 func appendOp(b []byte, o Op) []byte {
@@ -238,4 +242,8 @@ func EqualOps(a []Op, b []Op) bool {
 
 func equalOp(a Op, b Op) bool {
 	return a.Kind == b.Kind && a.Store == b.Store && a.Key == b.Key && EqualRecords(a.Record, b.Record) && a.Field == b.Field
+}
+
+func copyOp(o Op) Op {
+	return Op{Kind: o.Kind, Store: o.Store, Key: o.Key, Record: copyRecord(o.Record), Field: o.Field}
 }

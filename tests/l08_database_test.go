@@ -998,6 +998,18 @@ func extentOf[T any](list []T) extent {
 	return extent{start: start, end: start + uintptr(cap(list))*unsafe.Sizeof(*new(T))}
 }
 
+// extents is the memory of the whole argument.
+func (g guardedDatabase) extents() []extent {
+	all := []extent{extentOf(g.backing), extentOf(g.unique.backing)}
+	for _, items := range g.stores {
+		all = append(all, extentOf(items.backing))
+		for _, fields := range items.records {
+			all = append(all, extentOf(fields.backing))
+		}
+	}
+	return all
+}
+
 // extentsOf is the memory of all slices that a database reaches, also through spare capacity.
 func extentsOf(d impl.Database) []extent {
 	extents := []extent{extentOf(d.Stores), extentOf(d.Unique)}
@@ -1045,13 +1057,7 @@ func checkDatabaseResult(t *testing.T, what string, d impl.Database, call func(d
 // checkApartFrom holds a result against the memory of an argument.
 func checkApartFrom(t *testing.T, what string, result impl.Database, arg guardedDatabase) {
 	t.Helper()
-	theirs := []extent{extentOf(arg.backing), extentOf(arg.unique.backing)}
-	for _, items := range arg.stores {
-		theirs = append(theirs, extentOf(items.backing))
-		for _, fields := range items.records {
-			theirs = append(theirs, extentOf(fields.backing))
-		}
-	}
+	theirs := arg.extents()
 	for _, x := range extentsOf(result) {
 		for _, y := range theirs {
 			if x.start < y.end && y.start < x.end {
